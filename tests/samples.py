@@ -1,0 +1,109 @@
+"""Webs and other values that the tests share, and the document's words written out plainly."""
+
+from itertools import combinations, product
+
+from wayrows.webs import web_error
+
+W = (3, ((1,), (0, 3), (2, 3), (4, 5)))
+ONE = (1, ())
+CHERRY = (2, ((0, 1),))
+# A mixing (4) above a kind with children (3); its number is below that of its plain sister (5).
+ABOVE = (3, ((0, 1), (3,), (2, 4), (4, 5)))
+# A mixing (4) with three parents.
+THREE = (4, ((0,), (1, 4), (2, 4), (3, 4), (5, 6, 7)))
+# A kind (5) with four children, two of them mixings; a root with three children.
+BROAD = (5, ((1,), (3,), (0, 2, 5, 6), (4, 5), (6, 7, 8)))
+FLAT = (8, ((0, 1, 2, 3, 4, 5, 6, 7),))
+# As many leaves and inner kinds as a web may have: mixings 8 to 14, above them plain kinds.
+FULL = (8, ((1,), (2,), (3,), (4,), (5,), (6,), (7,), (0, 8, 9), (10, 15), (11, 16), (12, 17),
+            (13, 18), (14, 19), (8, 20), (9, 21), (10, 22), (11, 23), (12, 24), (13, 25), (14, 26)))
+# A web but for its 21 inner kinds.
+OVERFULL = (8, ((1,), (2,), (3,), (4,), (5,), (6,), (7,), (0, 8), (9, 15), (10, 16), (11, 17),
+                (12, 18), (13, 19), (14, 20), (8, 21), (9, 22), (10, 23), (11, 24), (12, 25),
+                (13, 26), (14, 27)))
+WEBS = (W, ONE, CHERRY, ABOVE, THREE, BROAD, FLAT, FULL)
+
+BIG = 10 ** 39
+
+
+def deep(levels, kind=tuple):
+    """A value nested so many levels deep."""
+    value = 0
+    for _ in range(levels):
+        value = kind([value])
+    return value
+
+
+ANY_VALUES = (
+    None, True, False, 0, 1, 2, 3, -1, BIG, -BIG, "", "web", "()", "x" * 3000,
+    (), [], {}, (0,), [0], {0: 1}, (1,), (1, 2, 3), [1, ()], {"a": (1, [None])}, {1: (), 2: ()},
+    (None, None), (True, False), ((), ()), ([], {}), "ab", deep(12), deep(12, list),
+    {"web": deep(10)}, tuple(range(2000)), list(range(2000)), {k: k for k in range(2000)},
+)
+
+
+def all_values(leaves, many):
+    """All pairs (leaves, inner) with many items in inner, each right by itself."""
+    items = []
+    for kind in range(leaves, leaves + many):
+        items.append([some for size in range(1, kind + 1)
+                      for some in combinations(range(kind), size)])
+    return [(leaves, inner) for inner in product(*items)]
+
+
+def small_values():
+    """All pairs with right items and few kinds, webs and others."""
+    found = []
+    for leaves, most in ((1, 4), (2, 4), (3, 3), (4, 2)):
+        for many in range(most + 1):
+            found.extend(all_values(leaves, many))
+    return found
+
+
+def with_link_changed(web):
+    """The values that differ from the web in one link, put in or left out."""
+    leaves, inner = web
+    found = []
+    for at, item in enumerate(inner):
+        for kind in range(leaves + at):
+            changed = tuple(sorted(set(item) ^ {kind}))
+            if changed:
+                found.append((leaves, inner[:at] + (changed,) + inner[at + 1:]))
+    return found
+
+
+def changed_webs():
+    """The values that differ from a sample in one link, and from some of them in two."""
+    found = [value for web in WEBS for value in with_link_changed(web)]
+    for web in (W, ABOVE, THREE, BROAD):
+        for value in with_link_changed(web):
+            found.extend(with_link_changed(value))
+    return found
+
+
+def small_webs():
+    """All webs among the small values."""
+    return [value for value in small_values() if web_error(value) is None]
+
+
+def plain_children(web):
+    """A dict that tells the children of each kind."""
+    leaves, inner = web
+    told = {kind: () for kind in range(leaves)}
+    told.update({leaves + at: item for at, item in enumerate(inner)})
+    return told
+
+
+def plain_parents(web):
+    """A dict that tells the parents of each kind."""
+    below = plain_children(web)
+    return {kind: tuple(sorted(upper for upper in below if kind in below[upper]))
+            for kind in below}
+
+
+def plain_ways(web, kind):
+    """All ways from a kind to any kinds, each a tuple of the kinds on it."""
+    found = [(kind,)]
+    for child in plain_children(web)[kind]:
+        found.extend([(kind,) + rest for rest in plain_ways(web, child)])
+    return found

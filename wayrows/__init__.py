@@ -1,0 +1,1 @@
+"""Wayrows: webs of descent, told by counts of ways."""

@@ -1,0 +1,21 @@
+"""What the modules ask of integers and tuples of them, in values of any kind."""
+
+
+def is_integer(value):
+    """Whether value is an integer: True and False are none."""
+    return isinstance(value, int) and not isinstance(value, bool)
+
+
+def is_between(value, low, high):
+    """Whether value is an integer from low to high."""
+    return is_integer(value) and low <= value <= high
+
+
+def is_ascending(value, high):
+    """Whether value is an ascending tuple of integers from 0 to high."""
+    if not isinstance(value, tuple):
+        return False
+    # The items are judged before they are compared: other values may have no order.
+    if not all([is_between(item, 0, high) for item in value]):
+        return False
+    return all([value[at] < value[at + 1] for at in range(len(value) - 1)])
