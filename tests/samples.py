@@ -22,8 +22,24 @@ OVERFULL = (8, ((1,), (2,), (3,), (4,), (5,), (6,), (7,), (0, 8), (9, 15), (10, 
                 (12, 18), (13, 19), (14, 20), (8, 21), (9, 22), (10, 23), (11, 24), (12, 25),
                 (13, 26), (14, 27)))
 WEBS = (W, ONE, CHERRY, ABOVE, THREE, BROAD, FLAT, FULL)
+# Two mixings (4 and 6), one beneath the other.
+LADDER = (4, ((1,), (0, 4), (5,), (2, 6), (3, 4, 6), (7, 8)))
 
 BIG = 10 ** 39
+
+
+def tower(levels, many):
+    """A web with one mixing of so many parents on each level; the ways grow by many each time."""
+    leaves = levels + 1
+    inner, top = [], 0
+    for leaf in range(1, leaves):
+        mixing = leaves + len(inner)
+        inner.append((top,))
+        inner.append((leaf, mixing))
+        for _ in range(many - 1):
+            inner.append((mixing, leaves + len(inner) - 1))
+        top = leaves + len(inner) - 1
+    return (leaves, tuple(inner))
 
 
 def deep(levels, kind=tuple):
@@ -86,6 +102,94 @@ def small_webs():
     return [value for value in small_values() if web_error(value) is None]
 
 
+class Draws:
+    """Numbers that look drawn by lot, the same ones each time."""
+
+    def __init__(self, seed):
+        self.state = seed
+
+    def below(self, many):
+        """A number from 0 to many - 1."""
+        self.state = (self.state * 6364136223846793005 + 1442695040888963407) % 2 ** 64
+        return (self.state >> 33) % many
+
+    def some(self, items, many):
+        """So many of the items, in any order."""
+        left, taken = list(items), []
+        for _ in range(many):
+            taken.append(left.pop(self.below(len(left))))
+        return taken
+
+
+def drawn_web(draws, leaves):
+    """A web with so many leaves and few kinds, built up from the leaves by joining."""
+    inner, plain, mixed = [], list(range(leaves)), {}
+    while len(plain) > 1 or any(mixed[kind] < 2 for kind in mixed):
+        if len(plain) > 1 and len(mixed) < leaves - 1 and draws.below(3) == 0:
+            child = draws.some(plain, 1)[0]
+            plain.remove(child)
+            mixed[leaves + len(inner)] = 0
+            inner.append((child,))
+        else:
+            lacking = [kind for kind in mixed if mixed[kind] < 2] or list(mixed)
+            below = draws.some(lacking, min(len(lacking), draws.below(3)))
+            below += draws.some(plain, min(len(plain), 1 + draws.below(2)))
+            if len(below) > 1:
+                for child in below:
+                    if child in mixed:
+                        mixed[child] += 1
+                    else:
+                        plain.remove(child)
+                plain.append(leaves + len(inner))
+                inner.append(tuple(sorted(below)))
+    return (leaves, tuple(inner))
+
+
+def drawn_webs(many, seed=1, least=1, most=8):
+    """So many drawn webs, with all numbers of leaves from least to most."""
+    draws, found = Draws(seed), []
+    while len(found) < many:
+        web = drawn_web(draws, least + len(found) % (most - least + 1))
+        if web_error(web) is None:
+            found.append(web)
+    return found
+
+
+def with_numbers(web, order):
+    """The web in which the kinds that are no leaves have the numbers of their places in order."""
+    leaves, inner = web
+    numbers = {leaf: leaf for leaf in range(leaves)}
+    numbers.update({kind: leaves + at for at, kind in enumerate(order)})
+    return (leaves, tuple(tuple(sorted(numbers[child] for child in inner[kind - leaves]))
+                          for kind in order))
+
+
+def numberings(web):
+    """The web in all numberings of its inner kinds in which children stand below their parents."""
+    leaves, inner = web
+
+    def orders(begun):
+        if len(begun) == len(inner):
+            yield begun
+        for kind in range(leaves, leaves + len(inner)):
+            if kind not in begun and all(child < leaves or child in begun
+                                         for child in inner[kind - leaves]):
+                yield from orders(begun + (kind,))
+
+    return [with_numbers(web, order) for order in orders(())]
+
+
+def numbered_otherwise(web, draws):
+    """The web in a drawn numbering of its inner kinds."""
+    leaves, inner = web
+    order = []
+    while len(order) < len(inner):
+        free = [kind for kind in range(leaves, leaves + len(inner)) if kind not in order
+                and all(child < leaves or child in order for child in inner[kind - leaves])]
+        order.extend(draws.some(free, 1))
+    return with_numbers(web, order)
+
+
 def plain_children(web):
     """A dict that tells the children of each kind."""
     leaves, inner = web
@@ -107,3 +211,15 @@ def plain_ways(web, kind):
     for child in plain_children(web)[kind]:
         found.extend([(kind,) + rest for rest in plain_ways(web, child)])
     return found
+
+
+def plain_rows(web):
+    """A dict that tells the row of each kind, by all ways counted one by one."""
+    return {kind: tuple(sum(way[-1] == leaf for way in plain_ways(web, kind))
+                        for leaf in range(web[0]))
+            for kind in plain_children(web)}
+
+
+def plain_lot(web):
+    """The rows of all kinds, in order."""
+    return tuple(sorted(plain_rows(web).values()))

@@ -17,6 +17,17 @@ FUNCTIONS = {
         "is_mixing": ("web", "kind"), "beneath": ("web", "kind"), "is_binary": ("web",),
         "is_tree": ("web",), "road": ("web", "kind"), "leaf_of": ("web", "kind"),
     },
+    "rows": {
+        "row": ("web", "kind"), "lot": ("web",), "ways": ("web", "kind", "to"),
+        "is_beneath": ("web", "kind", "to"),
+    },
+    "numbered": {
+        "way_at": ("web", "kind", "to", "value"), "place_of": ("web", "value"),
+    },
+    "holders": {
+        "holders": ("web", "leaf"), "kept": ("web", "kind"), "meeting": ("web", "some"),
+        "fraction": ("web", "kind", "leaf"),
+    },
 }
 
 CLASSES = {
@@ -26,7 +37,12 @@ CLASSES = {
         "NoWatch", "BadText", "BadName"),
 }
 
-ARGUMENTS = {"value": W, "web": W, "kind": 5}
+ARGUMENTS = {"value": W, "web": W, "kind": 5, "to": 1, "leaf": 1, "some": (0, 2)}
+# What functions need that can't do with the arguments above.
+SPECIAL = {
+    "way_at": {"value": 0},
+    "place_of": {"value": (6, 4, 3, 1)},
+}
 
 
 def defined(module, sort):
@@ -63,14 +79,16 @@ class TestInterface(unittest.TestCase):
             file = importlib.import_module(f"wayrows.{module}")
             for name, arguments in functions.items():
                 function = getattr(file, name)
-                given = [ARGUMENTS[argument] for argument in arguments]
+                values = {**ARGUMENTS, **SPECIAL.get(name, {})}
+                given = [values[argument] for argument in arguments]
                 expected = function(*given)
                 named = dict(zip(arguments, given))
                 turned = dict(reversed(list(named.items())))
                 self.assertEqual(function(**named), expected, name)
                 self.assertEqual(function(**turned), expected, name)
-                if len(given) == 2:
-                    self.assertEqual(function(given[0], **{arguments[1]: given[1]}), expected)
+                for first in range(len(given)):
+                    rest = {argument: named[argument] for argument in arguments[first:]}
+                    self.assertEqual(function(*given[:first], **rest), expected, name)
                 with self.assertRaises(TypeError):
                     function(*given, other=1)
                 with self.assertRaises(TypeError):
