@@ -1,6 +1,6 @@
 """Webs and other values that the tests share, and the document's words written out plainly."""
 
-from itertools import combinations, product
+from itertools import combinations, combinations_with_replacement, product
 
 from wayrows.webs import web_error
 
@@ -223,3 +223,54 @@ def plain_rows(web):
 def plain_lot(web):
     """The rows of all kinds, in order."""
     return tuple(sorted(plain_rows(web).values()))
+
+
+def plain_matches(one, other):
+    """All matches of two webs, by trying: each kind goes where its children tell it to go."""
+    below, beyond = plain_children(one), plain_children(other)
+    found = [()] if len(below) == len(beyond) and one[0] == other[0] else []
+    for kind in sorted(below):
+        longer = []
+        for begun in found:
+            for goal in sorted(beyond):
+                fits = tuple(sorted(begun[child] for child in below[kind])) == beyond[goal]
+                if fits and goal not in begun and (kind >= one[0] or goal == kind):
+                    longer.append(begun + (goal,))
+        found = longer
+    return found
+
+
+def pairs_of_webs():
+    """Pairs of webs with equally many leaves: small ones, and drawn ones with a link changed."""
+    small = small_webs()
+    found = [(one, other) for one in small for other in small if one[0] == other[0]]
+    draws = Draws(11)
+    for web in drawn_webs(16, 12, 2):
+        changed = [value for value in with_link_changed(web) if web_error(value) is None]
+        for other in [web, numbered_otherwise(web, draws)] + draws.some(changed, min(3, len(changed))):
+            found.extend([(web, other), (other, web)])
+    return found
+
+
+def all_lots(leaves, most, extra):
+    """All tuples of rows in order with each leaf's row, and up to so many rows more.
+
+    The rows that come beside have no number above most."""
+    units = [tuple(int(at == leaf) for at in range(leaves)) for leaf in range(leaves)]
+    rows = [row for row in product(range(most + 1), repeat=leaves) if any(row)]
+    return [tuple(sorted(units + list(more))) for many in range(extra + 1)
+            for more in combinations_with_replacement(rows, many)]
+
+
+def changed_lots(value):
+    """The tuples of rows in order that differ from a lot in one row: out, doubled, or by one."""
+    found = []
+    for at, row in enumerate(value):
+        rest = value[:at] + value[at + 1:]
+        found.extend([rest, value + (row,)])
+        for place, number in enumerate(row):
+            for other in (number - 1, number + 1):
+                changed = row[:place] + (other,) + row[place + 1:]
+                if other >= 0 and any(changed):
+                    found.append(rest + (changed,))
+    return [tuple(sorted(rows)) for rows in found]

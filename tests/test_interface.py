@@ -7,6 +7,7 @@ import pathlib
 import unittest
 
 from samples import W
+from wayrows.rows import lot
 
 FOLDER = pathlib.Path(__file__).resolve().parent.parent / "wayrows"
 
@@ -28,6 +29,16 @@ FUNCTIONS = {
         "holders": ("web", "leaf"), "kept": ("web", "kind"), "meeting": ("web", "some"),
         "fraction": ("web", "kind", "leaf"),
     },
+    "alike": {
+        "is_alike": ("one", "other"), "match": ("one", "other"), "paper": ("one", "other"),
+        "distance": ("one", "other"), "nearest": ("one", "some"),
+    },
+    "checker": {"is_paper": ("one", "other", "value")},
+    "forms": {
+        "form": ("web",), "renamed": ("web", "names"), "under": ("web", "leaf", "other"),
+        "beside": ("one", "other"),
+    },
+    "built": {"web_of": ("leaves", "value"), "parts": ("leaves", "value")},
 }
 
 CLASSES = {
@@ -37,11 +48,17 @@ CLASSES = {
         "NoWatch", "BadText", "BadName"),
 }
 
-ARGUMENTS = {"value": W, "web": W, "kind": 5, "to": 1, "leaf": 1, "some": (0, 2)}
+TREE = (3, ((0, 1), (2, 3)))
+ARGUMENTS = {"value": W, "web": W, "kind": 5, "to": 1, "leaf": 1, "some": (0, 2), "one": W,
+             "other": TREE, "names": (1, 2, 0), "leaves": 3}
 # What functions need that can't do with the arguments above.
 SPECIAL = {
     "way_at": {"value": 0},
     "place_of": {"value": (6, 4, 3, 1)},
+    "nearest": {"some": (TREE, W)},
+    "is_paper": {"value": ("row", (0, 1, 0), 2, 1)},
+    "web_of": {"value": lot(W)},
+    "parts": {"value": lot(W)},
 }
 
 

@@ -2,10 +2,15 @@
 
 import unittest
 
-from samples import (FULL, LADDER, WEBS, drawn_webs, plain_parents, plain_ways, small_webs, tower)
+from samples import (FULL, LADDER, WEBS, changed_lots, drawn_webs, pairs_of_webs, plain_lot,
+                     plain_matches, plain_parents, plain_ways, small_webs, tower, with_link_changed)
+from wayrows.alike import distance, is_alike, match, paper
+from wayrows.built import web_of
+from wayrows.checker import is_paper
+from wayrows.errors import NoWeb
 from wayrows.holders import holders, kept
-from wayrows.rows import is_beneath, row
-from wayrows.webs import children, is_mixing, leaf_of, root
+from wayrows.rows import is_beneath, lot, row
+from wayrows.webs import children, is_mixing, leaf_of, root, web_error
 
 MANY = small_webs() + list(WEBS) + drawn_webs(40, 8) + [LADDER, tower(4, 4), tower(6, 2)]
 
@@ -44,6 +49,68 @@ class TestRowsTellWhatLiesBeneath(unittest.TestCase):
                         by_child = len(above[kind]) > 1 and kind in above[to]
                         expected = is_nowhere_above(low, high) and (low != high or by_child)
                         self.assertEqual(to in ends, expected)
+
+
+class TestAlikeIfLotsAreEqual(unittest.TestCase):
+    """(b)"""
+
+    def test_alike_exactly_if_the_lots_are_equal(self):
+        seen = set()
+        for one, other in pairs_of_webs():
+            equal = plain_lot(one) == plain_lot(other)
+            seen.add(equal)
+            self.assertEqual(len(plain_matches(one, other)), int(equal))
+            self.assertIs(is_alike(one, other), equal)
+            self.assertIs(match(one, other) is not None, equal)
+        self.assertEqual(seen, {True, False})
+
+    def test_a_match_or_a_row_that_parts(self):
+        for one, other in pairs_of_webs():
+            told = paper(one, other)
+            self.assertIs(is_paper(one, other, told), True)
+            self.assertEqual(told[0], "match" if is_alike(one, other) else "row")
+
+    def test_distance_is_a_distance(self):
+        for leaves in (2, 3, 4):
+            webs = [web for web in small_webs() if web[0] == leaves]
+            webs += drawn_webs(6, 34, leaves, leaves)
+            far = {(one, other): distance(one, other) for one in webs for other in webs}
+            for one in webs:
+                for other in webs:
+                    self.assertEqual(far[one, other] == 0, is_alike(one, other))
+                    self.assertEqual(far[one, other], far[other, one])
+                    for third in webs:
+                        self.assertLessEqual(far[one, other], far[one, third] + far[third, other])
+
+
+class TestLotsAreBuiltUpOrBarred(unittest.TestCase):
+    """(c)"""
+
+    def test_lots_of_webs(self):
+        for web in MANY:
+            told = web_of(web[0], lot(web))
+            self.assertEqual(plain_lot(told), lot(web))
+            self.assertIs(is_alike(told, web), True)
+
+    def test_lots_of_webs_with_a_link_changed(self):
+        for web in drawn_webs(12, 35):
+            for value in with_link_changed(web):
+                if web_error(value) is None:
+                    self.assertEqual(lot(web_of(value[0], lot(value))), lot(value))
+
+    def test_other_rows_are_barred_or_built_up_to_their_web(self):
+        ends = set()
+        for web in small_webs() + drawn_webs(24, 36):
+            for value in changed_lots(lot(web)):
+                try:
+                    told = web_of(web[0], value)
+                except NoWeb as error:
+                    ends.add(error.word)
+                else:
+                    ends.add(None)
+                    self.assertIsNone(web_error(told))
+                    self.assertEqual(plain_lot(told), value)
+        self.assertLessEqual({None, "leaf", "twice", "parents"}, ends)
 
 
 class TestKindsAreHolders(unittest.TestCase):
