@@ -2,15 +2,18 @@
 
 import unittest
 
-from samples import (FULL, LADDER, WEBS, changed_lots, drawn_webs, pairs_of_webs, plain_lot,
-                     plain_matches, plain_parents, plain_ways, small_webs, tower, with_link_changed)
+from samples import (FULL, LADDER, OVERFULL, WEBS, Draws, changed_lots, drawn_webs, pairs_of_webs,
+                     plain_lot, plain_matches, plain_parents, plain_ways, small_webs, tower,
+                     with_link_changed)
 from wayrows.alike import distance, is_alike, match, paper
 from wayrows.built import web_of
 from wayrows.checker import is_paper
+from wayrows.edits import grafted, spots, struck
 from wayrows.errors import NoWeb
+from wayrows.forms import form
 from wayrows.holders import holders, kept
 from wayrows.rows import is_beneath, lot, row
-from wayrows.webs import children, is_mixing, leaf_of, root, web_error
+from wayrows.webs import children, is_mixing, is_tree, leaf_of, links, root, web_error
 
 MANY = small_webs() + list(WEBS) + drawn_webs(40, 8) + [LADDER, tower(4, 4), tower(6, 2)]
 
@@ -129,6 +132,49 @@ class TestKindsAreHolders(unittest.TestCase):
                 told = [way for way in found if way[-1] == leaf_of(web, kind)]
                 self.assertTrue(told)
                 self.assertTrue(all(kind in way for way in told))
+
+
+class TestEditsAreWebs(unittest.TestCase):
+    """(e)"""
+
+    def test_all_links_into_mixings(self):
+        number = 0
+        for web in MANY + drawn_webs(200, 97) + [OVERFULL]:
+            for parent, child in links(web):
+                if is_mixing(web, child):
+                    number += 1
+                    told = struck(web, parent, child)
+                    self.assertIsNone(web_error(told), (web, parent, child))
+                    self.assertEqual(told[0], web[0])
+                    self.assertLess(len(links(told)), len(links(web)))
+        self.assertGreater(number, 1000)
+
+    def test_struck_until_a_tree_is_left(self):
+        for web in MANY:
+            while not is_tree(web):
+                found = [link for link in links(web) if is_mixing(web, link[1])]
+                web = struck(web, *found[len(found) // 2])
+                self.assertIsNone(web_error(web))
+
+    def test_pairs_of_spots(self):
+        draws, number = Draws(94), 0
+        for web in MANY:
+            found = spots(web)
+            for begin, end in draws.some(found, min(len(found), 40)):
+                number += 1
+                told = grafted(web, begin, end)
+                self.assertIsNone(web_error(told), (web, begin, end))
+                self.assertEqual((told[0], form(told)), (web[0], told))
+        self.assertGreater(number, 1000)
+
+    def test_one_behind_another(self):
+        draws = Draws(95)
+        for web in drawn_webs(16, 96, 2):
+            for _ in range(6):
+                found = spots(web)
+                if found:
+                    web = grafted(web, *draws.some(found, 1)[0])
+                    self.assertIsNone(web_error(web))
 
 
 if __name__ == "__main__":
