@@ -1,6 +1,7 @@
 """Those rules of the language for the package's files that are easily looked through."""
 
 import ast
+import builtins
 import pathlib
 import unittest
 
@@ -97,8 +98,21 @@ class TestLanguage(unittest.TestCase):
                     told = {item.id for item in node.decorator_list if isinstance(item, ast.Name)}
                     self.assertLessEqual(told, {"property", "staticmethod", "classmethod"}, name)
 
+    def test_what_a_class_with_signs_bars(self):
+        signs = {"__init__", "__len__", "__getitem__", "__contains__", "__iter__", "__eq__", "__str__"}
+        barred = (ast.GeneratorExp, ast.Yield, ast.YieldFrom, ast.AugAssign, ast.Starred, ast.Lambda)
+        for name, tree in trees().items():
+            for node in ast.walk(tree):
+                if not isinstance(node, ast.Starred) or name != "lost":
+                    self.assertNotIsInstance(node, barred, name)
+                if isinstance(node, ast.FunctionDef) and node.name.startswith("__"):
+                    self.assertIn(node.name, signs, name)
+                if isinstance(node, ast.Attribute):
+                    self.assertNotIn(node.attr, ("sort", "keys", "format", "mro", "args"), name)
+
     def test_builtins(self):
-        known = set(dir(__builtins__) if not isinstance(__builtins__, dict) else __builtins__)
+        # Python keeps the last answer of an example, as other tests run them, under the name _.
+        known = set(dir(builtins)) - {"_"}
         for name, tree in trees().items():
             for node in ast.walk(tree):
                 if isinstance(node, ast.Name):
