@@ -104,6 +104,14 @@ class TestMeeting(unittest.TestCase):
         for web in WEBS + (LADDER, TREE):
             self.assertEqual(meeting(web, tuple(range(web[0]))), root(web))
 
+    def test_eight_leaves_and_many_kinds(self):
+        web = (8, ((1,), (0, 8), (2, 8), (9, 10), (4,), (3, 12), (5, 12), (13, 14), (7,), (6, 16),
+                   (16, 15), (17, 18), (11, 19)))
+        self.assertEqual(meeting(web, (0, 1, 2, 3, 4, 5, 6, 7)), 20)
+        self.assertEqual([meeting(web, some) for some in ((0, 1, 2), (0, 1), (3, 5), (4, 7), (3, 6, 7))],
+                         [11, 11, 15, 19, 19])
+        self.assertEqual([meeting(web, (leaf,)) for leaf in range(8)], list(range(8)))
+
 
 class TestFraction(unittest.TestCase):
     def test_parts(self):
